@@ -1,0 +1,1 @@
+"""Gatebook: who may do what where, and by which road of grants."""
