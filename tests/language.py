@@ -24,6 +24,8 @@ METHODS = (
     "rsplit rstrip setdefault split splitlines startswith strip update upper values zfill bit_length"
 ).split()
 CHANGING = "append clear extend insert pop remove reverse setdefault update".split()
+OWN_VALUES = set(dir("") + dir(0) + dir([]) + dir({}) + dir(set()) + dir(b"") + ["args"])
+OBJECT_VALUES = "count index title find get join lower upper split strip copy add".split()
 UNDERSCORED = ("__init__", "__eq__", "__repr__", "__str__", "__len__")
 WALKED = ("zip", "enumerate", "reversed", "range")
 WALKED_METHODS = ("items", "keys", "values")
@@ -92,6 +94,7 @@ def faults(texts):
         check_values(file)
         check_walks(file)
         check_errors(file)
+        check_objects(file, methods)
     check_circles_of_imports(files)
     return [fault for file in files for fault in file.faults]
 
@@ -287,8 +290,22 @@ def bound_names(file):
                 yield alias.asname or alias.name, node
 
 
+def names_of_top(file):
+    """The classes and imports of a file, which no local may be called like."""
+    names = [node.name for node in file.tree.body if isinstance(node, ast.ClassDef)]
+    for node in file.tree.body:
+        if isinstance(node, ast.ImportFrom):
+            names.extend(alias.asname or alias.name for alias in node.names)
+    return names
+
+
 def check_names(file):
     bound = []
+    for node in file.of_kind(ast.arg, ast.Name):
+        name = node.arg if isinstance(node, ast.arg) else node.id
+        given = isinstance(node, ast.arg) or isinstance(node.ctx, ast.Store)
+        if given and name in names_of_top(file):
+            file.fault("L15", node)
     for name, node in bound_names(file):
         bound.append(name)
         method = isinstance(file.above.get(node), ast.ClassDef)
@@ -421,3 +438,25 @@ def check_errors(file):
     for node in file.of_kind(ast.Raise):
         if not isinstance(node.exc, ast.Call):
             file.fault("L19", node)
+
+
+def check_objects(file, methods):
+    for node in file.of_kind(ast.Attribute):
+        if not isinstance(node.ctx, ast.Store):
+            continue
+        if node.attr in methods:
+            file.fault("L18", node)
+        if node.attr in OWN_VALUES and node.attr not in OBJECT_VALUES:
+            file.fault("L26", node)
+    for owner in file.of_kind(ast.ClassDef):
+        for part in owner.body:
+            if isinstance(part, ast.FunctionDef):
+                check_method(file, part)
+
+
+def check_method(file, method):
+    allowed = METHODS + list(UNDERSCORED) + ["add", "discard"]
+    if method.name in OWN_VALUES and method.name not in allowed:
+        file.fault("L26", method)
+    if method.name == "__init__" and any(isinstance(part, ast.Return) for part in ast.walk(method)):
+        file.fault("L28", method)

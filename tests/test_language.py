@@ -104,6 +104,12 @@ BROKEN = (
     ("L25", "def f(a):\n    a.sort()\n"),
     ("L25", "def f(a):\n    return a.encode()\n"),
     ("L25", "def f(a):\n    b = a.append\n    return b(1)\n"),
+    ("L15", "from gatebook.errors import Ring\n\n\ndef f(Ring):\n    return Ring\n"),
+    ("L15", "class A:\n    pass\n\n\ndef f():\n    A = 1\n    return A\n"),
+    ("L18", "class A:\n    def f(self):\n        self.g = 1\n\n\nclass B:\n    def g(self):\n        return 1\n"),
+    ("L26", "class A:\n    def __init__(self):\n        self.items = []\n"),
+    ("L26", "class A:\n    def encode(self):\n        return 1\n"),
+    ("L28", "class A:\n    def __init__(self):\n        return None\n"),
     ("L27", "def f(a):\n    return 2 ** a\n"),
     ("L27", "def f(a):\n    return a + '%'\n"),
 )
@@ -135,7 +141,9 @@ class PackageTest(unittest.TestCase):
             self.assertNotIn(b"\r", path.read_bytes())
 
     def test_the_asked_modules_are_there(self):
-        for name in ("__init__.py", "errors.py", "circles.py", "places.py"):
+        for name in (
+            "__init__.py", "errors.py", "circles.py", "places.py", "rules.py", "house.py", "story.py", "lines.py",
+        ):
             self.assertIn(name, package_texts())
 
 
